@@ -1,0 +1,1 @@
+"""Toolchains: platforms, constraints, and what is chosen for several kinds at once."""
