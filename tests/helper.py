@@ -34,8 +34,34 @@ def fits(t, place, target):
     return [6, t, place, target]
 
 
+def choose(kind, place, target):
+    return [7, kind, place, target]
+
+
+def resolve(target, kinds=(), wishes=()):
+    return [8, target, len(kinds), *kinds, len(wishes), *wishes]
+
+
+def why(target, kinds=()):
+    return [9, target, len(kinds), *kinds]
+
+
+def served(*kinds):
+    return [10, len(kinds), *kinds]
+
+
+def alike(p, q):
+    return [11, p, q]
+
+
 def idle(*kinds):
     return [12, len(kinds), *kinds]
+
+
+# Platform p has the value p for setting 0.
+BASE = (setting(3), platform(-1, [0, 0]), platform(-1, [0, 1]), platform(-1, [0, 2]))
+# At place 0 there is kind 4 alone, at place 1 there are 4 and 5, at place 2 there are 4, 5 and 6.
+STEPS = (*BASE, toolchain(4), toolchain(5, [0, 1, 0, 2]), toolchain(6, [0, 2]), rank(0, 1, 2))
 
 
 def joined(calls):

@@ -2,10 +2,9 @@
 
 import unittest
 
-from tests.helper import HUGE, KIND, LIMIT, TWICE, idle, last, places, platform, rank, setting, tell, toolchain
-
-# Platform p has the value p for setting 0.
-BASE = (setting(3), platform(-1, [0, 0]), platform(-1, [0, 1]), platform(-1, [0, 2]))
+from tests.helper import (
+    BASE, HUGE, KIND, LIMIT, TWICE, choose, idle, last, places, platform, rank, setting, tell, toolchain,
+)
 
 
 class IdleTest(unittest.TestCase):
@@ -71,6 +70,21 @@ class IdleTest(unittest.TestCase):
         base = (setting(2), platform(-1, [0, 0]), toolchain(0, [], [0, 1]), rank(0), places(0))
         told = tell(*base, idle(0), platform(-1, [0, 1]), idle(0))
         self.assertEqual(told[5:], [[0, 0], [1], [0]])
+
+    def test_chosen_at_a_platform_that_is_no_place_is_idle_all_the_same(self):
+        told = tell(*BASE, toolchain(4, [0, 2]), rank(0), places(0), choose(4, 2, 0), idle(4))
+        self.assertEqual(told[-2:], [[1, 0], [0, 0]])
+
+    def test_what_is_chosen_is_not_idle(self):
+        base = (*BASE, toolchain(4, [0, 0], [0, 0]), toolchain(4, [0, 0]), toolchain(4, [0, 0], [0, 1]), toolchain(5))
+        told = tell(*base, rank(2, 0, 1, 3), places(0), *[choose(4, 0, target) for target in range(3)], idle(4, 5))
+        self.assertEqual(told[-4:], [[1, 0], [1, 2], [1, 1], [0]])
+
+    def test_all_platforms_and_all_toolchains(self):
+        ranking = list(range(31, -1, -1))
+        base = (*[platform()] * 16, *[toolchain(number // 2) for number in range(32)], rank(*ranking))
+        told = tell(*base, places(*range(16)), idle(*range(16)), places(), idle(*range(16)))
+        self.assertEqual(told[-3:], [[0] + ranking[1::2], [0], [0] + ranking])
 
     def test_kinds(self):
         for kind in (0, 31):

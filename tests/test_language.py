@@ -76,6 +76,21 @@ class LanguageTest(unittest.TestCase):
                 if isinstance(node, ast.Constant):
                     self.assertNotIsInstance(node.value, (float, bytes))
 
+    def test_is_stands_beside_none_true_and_false_alone(self):
+        for path, text in self.each():
+            for node in ast.walk(ast.parse(text)):
+                if isinstance(node, ast.Compare) and isinstance(node.ops[0], (ast.Is, ast.IsNot)):
+                    self.assertIsInstance(node.comparators[0], ast.Constant)
+                    self.assertIn(node.comparators[0].value, (None, True, False))
+
+    def test_what_is_walked_at_once_is_not_kept(self):
+        for path, text in self.each():
+            for node in ast.walk(ast.parse(text)):
+                if isinstance(node, (ast.Assign, ast.Return)) and isinstance(node.value, ast.Call):
+                    called = node.value.func
+                    name = called.attr if isinstance(called, ast.Attribute) else called.id
+                    self.assertNotIn(name, ("range", "zip", "enumerate", "reversed", "items", "keys", "values", "set"))
+
     def test_imports(self):
         for path, text in self.each():
             for node in ast.walk(ast.parse(text)):

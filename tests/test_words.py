@@ -4,8 +4,8 @@ import random
 import unittest
 
 from tests.helper import (
-    CHAIN, FULL, HUGE, KIND, LIMIT, PLATFORM, SETTING, TWICE, VALUE, fits, idle, joined, places, platform, rank,
-    setting, taken_apart, toolchain, value,
+    CHAIN, FULL, HUGE, KIND, LIMIT, NONE, PLATFORM, SETTING, TWICE, VALUE, alike, choose, fits, idle, joined, places,
+    platform, rank, resolve, served, setting, taken_apart, toolchain, value, why,
 )
 from toolchoice.desk import answers
 
@@ -103,6 +103,48 @@ class Words:
         unmet = self.unmet(place, self.toolchains[t][1])
         return [1, unmet[0]] if unmet else [2, self.unmet(target, self.toolchains[t][2])[0]]
 
+    def lacks(self, kinds, place, target):
+        return [kind for kind in kinds if self.chosen(kind, place, target) is None]
+
+    def on_choose(self, kind, place, target):
+        refuse(kind not in range(32), KIND)
+        refuse(place not in range(len(self.platforms)), PLATFORM)
+        refuse(target not in range(len(self.platforms)), PLATFORM)
+        t = self.chosen(kind, place, target)
+        return [0] if t is None else [1, t]
+
+    def on_resolve(self, target, kinds, wishes):
+        refuse(target not in range(len(self.platforms)), PLATFORM)
+        self.look_list(kinds, range(32), KIND)
+        self.look_list(wishes, range(32), KIND)
+        served_places = [place for place in self.places if not self.lacks(kinds, place, target)]
+        refuse(not served_places, NONE)
+        told = [served_places[0]]
+        for kind in kinds:
+            told.append(self.chosen(kind, told[0], target))
+        for wish in wishes:
+            t = self.chosen(wish, told[0], target)
+            told.append(-1 if t is None else t)
+        return told
+
+    def on_why(self, target, kinds):
+        refuse(target not in range(len(self.platforms)), PLATFORM)
+        self.look_list(kinds, range(32), KIND)
+        told = [0]
+        for place in self.places:
+            told += [place, (self.lacks(kinds, place, target) + [-1])[0]]
+        return told
+
+    def on_served(self, kinds):
+        self.look_list(kinds, range(32), KIND)
+        targets = range(len(self.platforms))
+        return [0] + [target for target in targets if any(not self.lacks(kinds, p, target) for p in self.places)]
+
+    def on_alike(self, p, q):
+        refuse(p not in range(len(self.platforms)), PLATFORM)
+        refuse(q not in range(len(self.platforms)), PLATFORM)
+        return [int(all(self.value(p, s) == self.value(q, s) for s in range(len(self.settings))))]
+
     def on_idle(self, kinds):
         self.look_list(kinds, range(32), KIND)
         told = [0]
@@ -152,6 +194,14 @@ class Line:
             row = self.lot.choice((row + row, row + [bound], [-1] + row, [0] * 64, [0] * 65))
         return row
 
+    def kinds(self):
+        row = self.lot.sample((0, 7, 31), self.lot.randrange(4))
+        if self.lot.random() < 0.1:
+            row.insert(self.lot.randrange(len(row) + 1), 5)
+        if self.lot.random() < self.wrong:
+            row = self.lot.choice((row + row, row + [32], [-1] + row, [HUGE], [7] * 64, [7] * 65, [-HUGE] * 100))
+        return row
+
     def built(self):
         for count in self.counts:
             yield setting, (count, self.number(count) if self.lot.random() < 0.4 else -1)
@@ -159,18 +209,23 @@ class Line:
             parent = self.number(number) if number and self.lot.random() < 0.6 else -1
             yield platform, (parent, self.pairs(len(self.counts), own=True))
         for _ in range(self.most_toolchains):
-            kind = self.lot.choice((0, 0, 31)) if self.lot.random() >= self.wrong else self.number(32)
+            kind = self.lot.choice((0, 0, 7, 31)) if self.lot.random() >= self.wrong else self.number(32)
             yield toolchain, (kind, self.pairs(3), self.pairs(3))
 
     def asked(self):
         for _ in range(6):
             yield rank, (self.order(min(self.most_toolchains, 32)),)
             yield places, (self.order(min(self.most_platforms, 16)),)
-            yield idle, (self.lot.choice(([0], [31], [0, 31], [31, 5, 0], [], [0, 32], [0, 0])),)
-            for _ in range(8):
-                yield value, (self.number(self.most_platforms), self.number(len(self.counts)))
+            yield idle, (self.kinds(),)
+            yield served, (self.kinds(),)
+            for _ in range(5):
                 ends = [self.number(self.most_platforms) for _ in range(2)]
+                yield value, (ends[0], self.number(len(self.counts)))
                 yield fits, (self.number(self.most_toolchains), *ends)
+                yield choose, (self.number(32) if self.lot.random() < 0.1 else self.lot.choice((0, 7, 31)), *ends)
+                yield resolve, (ends[0], self.kinds(), self.kinds())
+                yield why, (ends[1], self.kinds())
+                yield alike, ends
 
     def calls(self):
         calls = list(self.built())
@@ -180,7 +235,7 @@ class Line:
 
 
 def as_numbers(call, handed):
-    return call(*handed[0]) if call in (rank, places, idle) else call(*handed)
+    return call(*handed[0]) if call in (rank, places, served, idle) else call(*handed)
 
 
 class WordsTest(unittest.TestCase):

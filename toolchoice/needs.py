@@ -23,6 +23,14 @@ def value_of(stock, platform, setting):
     return stock.platforms[platform].get(setting, stock.settings[setting].default)
 
 
+def same_values(stock, platform, other):
+    """Whether two platforms have for each setting the same value, or both none."""
+    for setting in range(len(stock.settings)):
+        if value_of(stock, platform, setting) != value_of(stock, other, setting):
+            return False
+    return True
+
+
 def unmet_setting(stock, platform, need):
     """The first setting of a need that the platform does not meet, or None."""
     for setting, alternatives in need.items():

@@ -10,4 +10,5 @@ PLATFORM = -4
 CHAIN = -5
 KIND = -6
 TWICE = -7
+NONE = -8
 FULL = -9
